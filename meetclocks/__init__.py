@@ -1,0 +1,1 @@
+"""Machines with clocks that meet on signals."""

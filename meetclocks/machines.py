@@ -42,42 +42,43 @@ class Desk:
 
     def way(self, most, numbers):
         """Answer the call way."""
-        if self.told is None:
-            return [NOTHING_TAKEN]
-        if len(numbers) > LONGEST_ASKS or not is_most(most):
-            return [OUT_OF_RANGE]
-        asked = read_asks(self.told, text_of(numbers))
-        if asked is None:
-            return [WRONG_ASK]
-        if self.search().has_too_many():
-            return [TOO_MANY_STATES]
-        return self.steps_to(first_asked(self.search().firsts, asked), most)
+        refused = self.refusal(most, numbers)
+        if refused < 0:
+            return [refused]
+        return self.steps_to(first_asked(self.search().firsts, self.asked_places(numbers)), most)
 
     def least(self, numbers):
         """Answer the call least."""
-        if self.told is None:
-            return [NOTHING_TAKEN]
-        if len(numbers) > LONGEST_ASKS:
-            return [OUT_OF_RANGE]
-        asked = read_asks(self.told, text_of(numbers))
-        if asked is None:
-            return [WRONG_ASK]
-        if self.search().has_too_many():
-            return [TOO_MANY_STATES]
+        refused = self.refusal(0, numbers)
+        if refused < 0:
+            return [refused]
         if self.units is None:
             self.units = least_units(self.search().world)
-        units = first_asked(self.units, asked)
+        units = first_asked(self.units, self.asked_places(numbers))
         return [NO_WAY if units < 0 else units]
 
     def stuck(self, most):
         """Answer the call stuck."""
-        if self.told is None:
-            return [NOTHING_TAKEN]
-        if not is_most(most):
-            return [OUT_OF_RANGE]
-        if self.search().has_too_many():
-            return [TOO_MANY_STATES]
+        refused = self.refusal(most, [])
+        if refused < 0:
+            return [refused]
         return self.steps_to(self.search().first_stuck, most)
+
+    def refusal(self, most, numbers):
+        """Answer the first refusal that fits of those that all calls but load share, or 0."""
+        if self.told is None:
+            return NOTHING_TAKEN
+        if len(numbers) > LONGEST_ASKS or most < 0 or most > MOST_STEPS:
+            return OUT_OF_RANGE
+        if self.asked_places(numbers) is None:
+            return WRONG_ASK
+        if self.search().has_too_many():
+            return TOO_MANY_STATES
+        return 0
+
+    def asked_places(self, numbers):
+        """Answer what the bytes ask for, or None if one of the asks is wrong."""
+        return read_asks(self.told, text_of(numbers))
 
     def search(self):
         """Answer the search through the states, made when it is asked for first."""
@@ -96,11 +97,6 @@ class Desk:
         for step in steps:
             answer.extend(step)
         return answer
-
-
-def is_most(number):
-    """Tell whether so many steps may be the most that are allowed."""
-    return 0 <= number <= MOST_STEPS
 
 
 def first_asked(by_spot, asked):
